@@ -377,6 +377,16 @@ func TestP61EachCut(t *testing.T) {
 	}
 }
 
+func TestP61LongCut(t *testing.T) {
+	for _, x := range []api.Ins{{Op: ops.OpTswitch, N: -9, To: row(7, 301)}, {Op: ops.OpLswitch, To: row(7, 301), Keys: row(-9, 300)}} {
+		b := bytesOf(x)
+		for count := 1; count < len(b); count++ {
+			wantError(t, b[:count], 0, api.ErrTrunc)
+		}
+		wantDecoded(t, b, 0)
+	}
+}
+
 func TestP61CutWithRoom(t *testing.T) {
 	// What stands in the spare room behind the bytes is none of them.
 	b := []byte{0x3C, 0, 9, 0, 1, 0xFF, 0xFF, 0xFF, 0xFF, 0, 11}
