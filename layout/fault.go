@@ -47,10 +47,10 @@ func (l *Layout) unlike(i int) bool {
 	return slices.ContainsFunc(l.class(i).fields, isField) || slices.ContainsFunc(l.methodsOf(i), isMethod)
 }
 
-// mixed tells whether a class has a static method where one of the same name and proto that is not stands above; or the other way round.
+// mixed tells whether a class has a static method where one of the same name and proto that is not stands in a class above; or the other way round. Interfaces are no classes above: what they have does not mix with what a class has.
 func (l *Layout) mixed(i int) bool {
 	return slices.ContainsFunc(l.methodsOf(i), func(m method) bool {
-		_, is := l.first(l.above(i), m.sign, func(other *method) bool { return other.Static != m.Static })
+		_, is := l.first(l.upwards(i), m.sign, func(other *method) bool { return other.Static != m.Static })
 		return is
 	})
 }

@@ -17,10 +17,7 @@ func layouts(t *testing.T) []*layout.Layout {
 	}
 	d := &dice{state: 12}
 	for len(all) < 150 {
-		l := someFit(d, 1+d.roll(14))
-		if x, _, e := layout.Of(linked(t, l)); e == api.OK {
-			all = append(all, x)
-		}
+		all = append(all, laid(t, someFit(d, 1+d.roll(14))))
 	}
 	return all
 }

@@ -266,8 +266,9 @@ func TestP101Interfaces(t *testing.T) {
 	laid(t, []api.Class{having(class("A", "Object"), []api.Field{static("a", anInt), field("b", ref("A"))}, plain("f", void), still("g", void))})
 }
 
-// A static method and one that is not, of one name and proto, may not stand above one another.
+// A static method and one that is not, of one name and proto, may not stand in classes above one another, be the class above near or far.
 func TestP101Mixed(t *testing.T) {
+	others := []api.Method{plain("g1", giving), still("g2", void)}
 	for _, c := range []struct {
 		above, below api.Method
 		fits         bool
@@ -277,18 +278,13 @@ func TestP101Mixed(t *testing.T) {
 		{plain("f", void), still("f", giving), true}, {still("f", void), plain("f", ofInt), true},
 		{plain("f", void), still("g", void), true}, {still("f", void), plain("F", void), true},
 	} {
-		inFace := c.above
-		inFace.Abstract = !inFace.Static
-		others := []api.Method{plain("g1", giving), still("g2", void)}
-		given := inFace
-		given.Abstract = false
 		for _, l := range [][]api.Class{
-			{with(class("A", "B"), append(others, c.below)...), with(class("B", "Object"), c.above)},
+			{with(class("A", "B"), c.below), with(class("B", "Object"), c.above)},
+			{with(class("A", "B"), others[0], others[1], c.below), with(class("B", "Object"), c.above, others[0])},
+			{with(class("A", "B"), c.below), class("B", "C"), with(class("C", "Object"), c.above)},
 			{with(class("A", "B"), c.below, others[0]), class("B", "C"), with(class("C", "D"), others...), with(class("D", "Arith"), others[1], c.above)},
-			{with(face("A", "I"), hollow(c.below)), with(face("I"), inFace)},
-			{with(face("A", "I"), hollow(c.below)), face("I", "J"), face("J", "K"), with(face("K"), inFace)},
-			{with(class("A", "Object", "I"), fitted(c.fits, inFace, c.below)...), with(face("I"), inFace)},
-			{with(class("A", "B"), fitted(c.fits, inFace, c.below)...), answering(class("B", "Object", "J", "I"), inFace), with(face("I", "K"), empty("g1", giving)), face("J"), with(face("K"), inFace)},
+			{with(class("A", "B", "I"), c.below), with(class("B", "C"), others[0]), with(class("C", "Null", "I"), c.above, others[0]), with(face("I", "J"), empty("g1", giving)), face("J")},
+			{with(class("A", "B", "I"), c.below), with(class("B", "Object"), c.above), with(face("I"), still("f", void))},
 		} {
 			if c.fits {
 				laid(t, l)
@@ -299,30 +295,44 @@ func TestP101Mixed(t *testing.T) {
 	}
 }
 
-// hollow is a method as an interface has it.
-func hollow(m api.Method) api.Method {
-	m.Abstract = !m.Static
-	return m
+// An interface is no class above: its static method may stand beside a class's that is not, if the class has the interface itself, or far from it.
+func TestP101BesideInterfaces(t *testing.T) {
+	m, s := plain("f", ofInt), still("f", ofInt)
+	for _, l := range [][]api.Class{
+		{with(class("A", "Object", "I"), m), with(face("I"), s)},
+		{with(class("A", "Object", "J", "I"), plain("g", void), m), with(face("I"), still("g", void), s), face("J")},
+		// by a class above, near and far
+		{with(class("A", "B"), m), class("B", "Object", "I"), with(face("I"), s)},
+		{with(class("A", "B"), m), class("B", "C"), class("C", "Cast", "I"), with(face("I"), s)},
+		{class("A", "B", "I"), with(class("B", "Object"), m), with(face("I"), s)},
+		{with(class("A", "B"), m), with(class("B", "Object", "I"), m), with(face("I"), s)},
+		// through other interfaces, near and far
+		{with(class("A", "Object", "I"), m), face("I", "K"), with(face("K"), s)},
+		{with(class("A", "Object", "I"), m), face("I", "J", "K"), face("J"), face("K", "L"), with(face("L"), s)},
+		{with(class("A", "B"), m), class("B", "C"), class("C", "Object", "I"), face("I", "K"), face("K", "L"), with(face("L"), s)},
+		// beside one that asks for it
+		{with(class("A", "Object", "I", "K"), m), with(face("I"), s), with(face("K"), empty("f", ofInt))},
+		{with(class("A", "B", "K"), plain("g", void)), with(class("B", "Object", "I"), m), with(face("I"), s), with(face("K", "I"), empty("f", ofInt))},
+	} {
+		wantModel(t, laid(t, l))
+		slices.Reverse(l)
+		wantModel(t, laid(t, l))
+	}
 }
 
-// fitted are a method, and, if all else is to fit, what an interface asks for, if it asks.
-func fitted(fits bool, asked, m api.Method) []api.Method {
-	l := []api.Method{m}
-	asked.Abstract = false
-	if fits && !asked.Static && !alike(asked, m) {
-		l = append(l, asked)
+// Above an interface stands Object: one may have a static method where another one that it has has an abstract one; or the other way round.
+func TestP101InterfacesBeside(t *testing.T) {
+	for _, c := range [][2]api.Method{{still("f", giving), empty("f", giving)}, {empty("f", giving), still("f", giving)}} {
+		for _, l := range [][]api.Class{
+			{with(face("I", "K"), c[0]), with(face("K"), c[1])},
+			{with(face("I", "J", "K"), empty("g", void), c[0]), face("J"), with(face("K"), still("g", void), c[1])},
+			{with(face("I", "J"), c[0]), face("J", "K"), face("K", "L"), with(face("L"), c[1])},
+			{with(class("A", "Object", "I"), plain("f", giving)), with(face("I", "K"), c[0]), with(face("K"), c[1])},
+			{with(class("A", "Object", "J", "K"), plain("f", giving)), with(face("J"), c[0]), with(face("K"), c[1])},
+		} {
+			wantModel(t, laid(t, l))
+		}
 	}
-	return append(l, plain("g1", giving))
-}
-
-// answering is a class that has what its interfaces ask for: a method of one of them, and g1.
-func answering(c api.Class, asked api.Method) api.Class {
-	c = with(c, plain("g1", giving))
-	if !asked.Static {
-		asked.Abstract = false
-		c.Methods = append(c.Methods, asked)
-	}
-	return c
 }
 
 func TestP101Lacking(t *testing.T) {
@@ -349,6 +359,9 @@ func TestP101Lacking(t *testing.T) {
 		{[]api.Class{with(class("A", "Object", "I"), still("f", void)), i}, "A"},
 		{[]api.Class{class("A", "B", "I"), with(class("B", "Object"), still("f", void)), i}, "A"},
 		{[]api.Class{class("A", "B", "I"), class("B", "C"), with(class("C", "Object"), still("f", void)), i}, "A"},
+		{[]api.Class{with(class("A", "Object", "K", "I"), still("f", void)), with(face("K"), still("f", void)), i}, "A"},
+		{[]api.Class{with(class("A", "Object", "J"), still("f", void)), with(face("J", "I"), still("f", void)), i}, "A"},
+		{[]api.Class{class("A", "Object", "J"), with(face("J", "I"), still("f", void)), i}, "A"},
 		// only by another interface
 		{[]api.Class{class("A", "Object", "I", "J"), i, with(face("J"), empty("f", void))}, "A"},
 		{[]api.Class{class("A", "Object", "J", "I"), i, with(face("J"), still("f", void))}, "A"},
@@ -428,7 +441,7 @@ func TestP101UnfitAbove(t *testing.T) {
 		{[]api.Class{class("A", "B", "I"), with(class("B", "Object"), empty("f", void)), with(face("I"), empty("f", void))}, "B", api.ErrLink},
 		{[]api.Class{with(class("A", "Object", "I"), plain("f", void)), with(face("I"), plain("f", void))}, "I", api.ErrLink},
 		{[]api.Class{class("A", "Object", "I"), with(face("I"), plain("f", void))}, "I", api.ErrLink},
-		{[]api.Class{with(class("A", "Object", "I"), plain("f", void)), with(face("I"), both)}, "A", api.ErrLink},
+		{[]api.Class{with(class("A", "Object", "I"), plain("f", void)), with(face("I"), both)}, "I", api.ErrLink},
 		{[]api.Class{with(class("A", "Object", "I"), still("f", void)), with(face("I"), both)}, "A", api.ErrLink},
 		{[]api.Class{class("A", "Object", "I"), with(face("I"), both)}, "A", api.ErrLink},
 		{[]api.Class{class("A", "Object", "I"), with(face("I"), plain("f", void), empty("f", void))}, "A", api.ErrLink},
@@ -441,12 +454,7 @@ func TestP101UnfitAbove(t *testing.T) {
 func TestP101Model(t *testing.T) {
 	d := &dice{state: 3}
 	for range 300 {
-		l := someFit(d, 1+d.roll(10))
-		if name, e := (model{linked(t, l)}).fault(); e == api.OK {
-			laid(t, l)
-		} else {
-			wantFault(t, l, name, e)
-		}
+		laid(t, someFit(d, 1+d.roll(10)))
 	}
 	faults := map[api.Errno]int{}
 	for range 3000 {

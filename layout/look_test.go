@@ -128,10 +128,7 @@ func TestP102Model(t *testing.T) {
 	}
 	d := &dice{state: 8}
 	for range 200 {
-		l := someFit(d, 1+d.roll(8))
-		if _, e := (model{linked(t, l)}).fault(); e == api.OK {
-			wantModel(t, laid(t, l))
-		}
+		wantModel(t, laid(t, someFit(d, 1+d.roll(8))))
 	}
 }
 
@@ -221,6 +218,19 @@ func TestP103FarAbove(t *testing.T) {
 	wantBoth(t, x, 8, "s", void, 0, -1)
 	wantBoth(t, x, 8, "s", giving, 2, -1)
 	wantBoth(t, x, 9, "s", giving, -1, -1)
+}
+
+// A method of an interface's, static, beside one of a class's that is not: the class's is meant where it stands ahead, and had where it is on the way up.
+func TestP103BesideInterfaces(t *testing.T) {
+	l := []api.Class{
+		with(class("A", "B"), plain("f", void)), class("B", "Object", "I"), class("C", "A", "J"),
+		with(face("I"), still("f", void)), with(face("J", "K"), still("f", void)), with(face("K"), empty("f", void)), face("L", "I", "K"), face("M", "K", "I"),
+	}
+	x := laid(t, l)
+	// A 8, B 9, C 10, I 11, J 12, K 13, L 14, M 15; A: f 0; I: f 1; J: f 2; K: f 3
+	for class, want := range map[int][2]int{8: {0, 0}, 9: {1, -1}, 10: {0, 0}, 11: {1, -1}, 12: {2, -1}, 13: {3, -1}, 14: {1, -1}, 15: {3, -1}} {
+		wantBoth(t, x, class, "f", void, want[0], want[1])
+	}
 }
 
 func TestP103NoLayout(t *testing.T) {

@@ -126,7 +126,7 @@ func (m model) fits3(i int) bool {
 
 func (m model) fits4(i int) bool {
 	for _, a := range m.class(i).Methods {
-		if m.has(m.set.Above(i)[1:], a, func(b api.Method) bool { return a.Static && !b.Static || !a.Static && b.Static }) {
+		if m.has(m.line(i)[1:], a, func(b api.Method) bool { return a.Static && !b.Static || !a.Static && b.Static }) {
 			return false
 		}
 	}
@@ -401,13 +401,17 @@ func someType(d *dice, l []api.Class) api.Type {
 	return pick(d, api.Type{Kind: 1}, api.Type{Kind: 2}, api.Type{Kind: 4}, api.Type{Kind: 5}, api.Type{Kind: 3, Name: name}, api.Type{Kind: 6, Name: name})
 }
 
-// signs are methods' names and protos: few, so that they meet; some of them of static methods alone.
+// signs are methods' names and protos: few, so that they meet; some of them of static methods alone, the others of classes' methods that are not.
 func signs(d *dice, l []api.Class) []api.Method {
 	some := someType(d, l)
 	var made []api.Method
 	for _, name := range []string{"m", "n", "x"} {
 		for _, p := range []api.Proto{{}, {Ret: some}, {Args: []api.Type{some}}, {Args: []api.Type{{Kind: 1}, some}}, {Args: []api.Type{some, {Kind: 1}}}} {
-			made = append(made, api.Method{Static: d.roll(3) == 0, Name: name, Proto: p})
+			m := api.Method{Static: d.roll(3) == 0, Name: name, Proto: p}
+			// Of the protos some are the same, if the type is an int.
+			if !slices.ContainsFunc(made, func(other api.Method) bool { return alike(m, other) }) {
+				made = append(made, m)
+			}
 		}
 	}
 	return made
@@ -423,6 +427,8 @@ func someFit(d *dice, size int) []api.Class {
 			c.Fields = append(c.Fields, api.Field{Static: c.Interface || d.roll(3) == 0, Name: name, Type: someType(d, l)})
 		}
 		for _, a := range shuffled(d, all)[:d.roll(5)] {
+			// An interface may have a static one where classes have one that is not.
+			a.Static = a.Static || c.Interface && d.roll(3) == 0
 			a.Abstract = c.Interface && !a.Static
 			c.Methods = append(c.Methods, a)
 		}
